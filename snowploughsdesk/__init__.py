@@ -1,0 +1,1 @@
+"""A night's snow: who clears which street, in which order."""
