@@ -99,6 +99,10 @@ class Form(unittest.TestCase):
                 self.assertEqual(node.level, 0, where)
                 self.assertTrue(node.module.startswith("snowploughsdesk."), where)
 
+    def test_nothing_is_imported(self):
+        for place, node in walk_all():
+            self.assertNotIsInstance(node, (ast.Import, ast.ImportFrom), place)
+
     def test_names(self):
         bound = bound_names()
         for name in bound:

@@ -1,6 +1,9 @@
+import contextlib
+import io
 import unittest
+import unittest.mock
 
-from snowploughsdesk.night import Night, NotBuilt, answers, read_calls
+from snowploughsdesk.night import Night, answers, read_calls
 
 BIGGEST = 4294967295
 
@@ -246,9 +249,11 @@ class Answers(unittest.TestCase):
         changes = ("append", "clear", "extend", "insert", "pop", "remove", "reverse", "sort",
                    "__setitem__", "__delitem__", "__iadd__", "__imul__")
         watched_kind = type("Watched", (list,), {name: refuse for name in changes})
-        calls = list_of([begins(5, 6), street(), street(), apart(0, 1), begins(), together(0, 1)])
+        calls = list_of([
+            begins(5, 6), street(), street(3, 4), [4, 3, 1, 0, 2], [5], [6, 2, 1, 0], [7, 1, 9],
+            apart(0, 1), begins(), together(0, 1), [4, 3, 1, 0, 2], [5], [6, 2, 9, 9], [7, 1, 9]])
         watched = watched_kind(calls)
-        answers(watched)
+        self.assertEqual(answers(watched), answers(calls))
         self.assertEqual(list(watched), calls)
 
     def test_nothing_is_kept_from_one_time_to_the_next(self):
@@ -258,6 +263,20 @@ class Answers(unittest.TestCase):
         self.assertEqual(answers(calls), told)
         self.assertEqual(answers(apart(0, 1)), [1, -2])
         self.assertEqual(answers(street()), [1, 0])
+
+    def test_nothing_is_kept_for_check_best_ratio_and_needs_either(self):
+        answers(list_of([begins(5, 6), street(), street(), apart(0, 1), together(0, 1)]))
+        told = [5, 0, 0, 1, 0, 1, 4, 0, 0, 1, 1, 3, 1, 0, 1, 1, 1]
+        for turn in range(2):
+            self.assertEqual(answers([4, 0, 5, 6, 0, 7, 0, 0]), told)
+
+    def test_nothing_is_printed_or_read(self):
+        calls = list_of([begins(5, 6), street(), [4, 2, 0, 1], [5], [6, 1, 0], [7, 0, 9], [4, 0]])
+        output = io.StringIO()
+        with contextlib.redirect_stdout(output), contextlib.redirect_stderr(output):
+            with unittest.mock.patch("sys.stdin", None), unittest.mock.patch("builtins.open", None):
+                answers(calls)
+        self.assertEqual(output.getvalue(), "")
 
     def test_what_is_given_back_is_a_new_list_each_time(self):
         told = answers(street())
@@ -272,11 +291,6 @@ class Reading(unittest.TestCase):
                         2, 0, 1, 3, 1, 0, 4, 0, 6, 0, 5, 0, 1, 5]),
             [(5, []), (4, [1, 9, 0]), (7, [2, 5000]), (6, [0, 1]), (5, []), (0, []), (1, [8, 9]),
              (2, [0, 1]), (3, [1, 0]), (4, []), (6, []), (5, []), (0, [5])])
-
-    def test_a_call_that_is_not_built_is_not_answered_with_a_number(self):
-        for call in ([4, 0], [5], [6, 0], [7, 0, 1]):
-            with self.assertRaises(NotBuilt):
-                answers(street() + call)
 
 
 if __name__ == "__main__":
